@@ -1,20 +1,23 @@
 """The house: its axioms, and what it answers to the calls of a list."""
 
 from believedkinds.concepts import atoms_of, read_concepts
-from believedkinds.proofs import house_steps, proves_none
+from believedkinds.questions import Question
 
 MOST_AXIOMS = 5
 MOST_ATOMS = 5
 
 NOT_CONCEPTS = -1
 NO_SUCH_AXIOM = -2
-NO_SUCH_PROOF = -6
 TOO_MANY = -7
 
 BEGINS = 0
 LINE = 1
 DROP = 2
 NONE = 3
+MODEL = 4
+CHECKNONE = 5
+CHECKMODEL = 6
+CAN = 7
 
 
 class UnknownCall(ValueError):
@@ -53,20 +56,15 @@ class House:
         self.axioms.pop(which)
         return [len(self.axioms)]
 
-    def none(self, numbers):
-        concepts = read_concepts(numbers, 1)
+    def ask(self, call, lists):
+        """The calls about a concept, which is the first list: they are refused alike, then answered each in its way."""
+        concepts = read_concepts(lists[0], 1)
         if concepts is None:
             return [NOT_CONCEPTS]
         atoms = self.atoms_with(concepts)
         if len(atoms) > MOST_ATOMS:
             return [TOO_MANY]
-        steps = house_steps(self.axioms, atoms)
-        if not proves_none(concepts[0], atoms, steps):
-            return [NO_SUCH_PROOF]
-        answer = [len(steps)]
-        for step in steps:
-            answer.extend(step)
-        return answer
+        return answer_question(Question(self.axioms, concepts[0], atoms), call, lists)
 
 
 class Reader:
@@ -100,6 +98,19 @@ class Reader:
         return rows
 
 
+def answer_question(question, call, lists):
+    """What is answered to the call of this number about a concept."""
+    if call == NONE:
+        return question.none()
+    if call == MODEL:
+        return question.model()
+    if call == CHECKNONE:
+        return question.checknone(lists[1])
+    if call == CHECKMODEL:
+        return question.checkmodel(lists[1:])
+    return question.can()
+
+
 def answer_call(house, call, numbers, lists):
     """What the house answers to the call of this number."""
     if call == BEGINS:
@@ -108,8 +119,8 @@ def answer_call(house, call, numbers, lists):
         return house.line(lists[0])
     if call == DROP:
         return house.drop(numbers[0])
-    if call == NONE:
-        return house.none(lists[0])
+    if call <= CAN:
+        return house.ask(call, lists)
     raise UnknownCall("no call has this number")
 
 

@@ -1,25 +1,15 @@
 """The house's own proof that there's none: how each kind of thing goes, one after another."""
 
-from believedkinds.kinds import Kinds, column
-
-BY_AXIOM = 0
-BY_ATOM = 1
-
-
-def lowest_broken(columns, kind):
-    """The lowest axiom that's broken in a kind, or -1; columns has a pair of columns for each axiom."""
-    for number, pair in enumerate(columns):
-        if pair[0][kind] and not pair[1][kind]:
-            return number
-    return -1
+from believedkinds.columns import lowest_broken
+from believedkinds.kinds import BY_ATOM, BY_AXIOM, Kinds, axiom_columns
 
 
 def axiom_steps(axioms, atoms):
     """The steps by which all kinds go in which an axiom is broken."""
-    columns = [(column(axiom[0], atoms), column(axiom[1], atoms)) for axiom in axioms]
+    pairs = axiom_columns(axioms, atoms)
     steps = []
     for kind in range(1 << len(atoms)):
-        axiom = lowest_broken(columns, kind)
+        axiom = lowest_broken(pairs, kind)
         if axiom >= 0:
             steps.append((kind, BY_AXIOM, axiom))
     return steps
@@ -54,10 +44,6 @@ def house_steps(axioms, atoms):
     return steps
 
 
-def proves_none(concept, atoms, steps):
-    """Whether the concept holds in no kind that's there yet after right steps."""
-    holding = column(concept, atoms)
-    for kind in without(list(range(1 << len(atoms))), steps):
-        if holding[kind]:
-            return False
-    return True
+def left_after(steps, atoms):
+    """The kinds that no step takes away, rising; after the house's own proof these are the ones that can be there."""
+    return without(list(range(1 << len(atoms))), steps)

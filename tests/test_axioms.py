@@ -2,9 +2,7 @@
 
 import unittest
 
-from tests.helper import ask, begins, drop, line, none, proof
-
-MOST = 4294967295
+from tests.helper import MOST, ask, begins, drop, line, none, proof
 
 
 class Begins(unittest.TestCase):
@@ -104,7 +102,8 @@ class Line(unittest.TestCase):
         self.assertEqual(ask(line(*[6, 0] * 49, 0, 0)), [[-7]])
 
     def test_a_refusal_changes_nothing(self):
-        got = ask(line(2, 0, 1), line(0), line(2, 0, 2, 4), line(0, 6, 0, 6, 0, 6, 0, 6, 0, 6, 0, 0), none(2, 0), drop(1))
+        six_atoms = line(2, 1, 6, 0, 6, 0, 6, 0, 6, 0, 0)
+        got = ask(line(2, 0, 1), line(0), line(2, 0, 2, 4), six_atoms, none(2, 0), drop(1))
         self.assertEqual(got, [[0], [-1], [-1], [-7], proof((1, 0, 0)), [-2]])
 
 

@@ -143,3 +143,33 @@ class Language(unittest.TestCase):
             for node in ast.walk(tree):
                 if isinstance(node, ast.Call) and isinstance(node.func, ast.Attribute):
                     self.assertIn(node.func.attr, own | METHODS)
+
+    def test_no_file_draws_from_itself(self):
+        drawn = {}
+        for path, text, tree in self.each():
+            drawn[path.stem] = {node.module.split(".")[1] for node in tree.body if isinstance(node, ast.ImportFrom)}
+        reached = {stem: set(others) for stem, others in drawn.items()}
+        for _ in drawn:
+            for others in reached.values():
+                others |= {further for other in others for further in drawn[other]}
+        self.assertEqual([stem for stem, others in reached.items() if stem in others], [])
+        # The checker is to know nothing of how a proof was found.
+        self.assertEqual(reached["checks"] & {"proofs", "models", "questions", "house"}, set())
+
+    def test_no_method_is_a_value_too(self):
+        methods, held = set(), set()
+        for path, text, tree in self.each():
+            for node in ast.walk(tree):
+                if isinstance(node, ast.ClassDef):
+                    methods |= {row.name for row in node.body if isinstance(row, ast.FunctionDef)}
+                if isinstance(node, ast.Attribute) and isinstance(node.ctx, ast.Store):
+                    held.add(node.attr)
+        self.assertEqual(methods & held, set())
+
+    def test_no_local_is_called_like_an_import_or_a_class(self):
+        for path, text, tree in self.each():
+            top = {row.name for row in tree.body if isinstance(row, ast.ClassDef)}
+            top |= {alias.name for row in tree.body if isinstance(row, ast.ImportFrom) for alias in row.names}
+            for node in ast.walk(tree):
+                if isinstance(node, ast.FunctionDef):
+                    self.assertEqual(top & set(bound_names(node)), set(), path.name)

@@ -2,9 +2,7 @@
 
 import unittest
 
-from tests.helper import ask, begins, drop, line, none, proof
-
-MOST = 4294967295
+from tests.helper import MOST, NOT_JUST_A_CONCEPT, SIX_ATOMS, ask, begins, drop, line, none, proof
 
 
 class ByAxioms(unittest.TestCase):
@@ -132,11 +130,7 @@ class Edges(unittest.TestCase):
 
 class Refusals(unittest.TestCase):
     def test_not_just_a_concept(self):
-        wrong = (
-            (), (0, 0), (1, 1), (2, 0, 0), (3, 0, 0, 0), (5, 1, 1), (2, 4), (6, 2, 0), (7, 2, 0), (8,), (8, 0), (5, 8),
-            (2,), (3,), (3, 0), (4,), (4, 0), (5,), (6,), (6, 0), (7,), (7, 1), (3, 2, 0, 2), (6, 1, 2), (2, 0, 2, 1),
-        )
-        for numbers in wrong:
+        for numbers in NOT_JUST_A_CONCEPT:
             with self.subTest(numbers=numbers):
                 self.assertEqual(ask(line(2, 0, 1), none(*numbers), none(2, 0)), [[0], [-1], [1, 1, 0, 0]])
 
@@ -155,8 +149,7 @@ class Refusals(unittest.TestCase):
         self.assertEqual(ask(none(*many), none(*many, 2, 1, 0), none(*many, 2, 1)), [[-1], [-1], [-7]])
 
     def test_too_many_atoms_comes_before_no_such_proof(self):
-        six = (4, 6, 0, 0, 4, 6, 1, 0, 4, 7, 0, 0, 4, 7, 1, 0, 4, 2, 0, 2, 1)
-        self.assertEqual(ask(none(*six)), [[-7]])
+        self.assertEqual(ask(none(*SIX_ATOMS)), [[-7]])
 
     def test_a_refusal_changes_nothing(self):
         got = ask(line(2, 0, 1), none(8), none(2, 1), none(6, 0, 6, 0, 6, 0, 6, 0, 0), none(2, 0), line(0, 0))
