@@ -197,16 +197,19 @@ class SecondReckoning(unittest.TestCase):
         all_all = [7, 0, *all_one]
         third = [7, 0, *all_all]
         either = [4, 4, 6, 1, 0, *one, 4, 6, 1, 0, *third]
+        concept = [4, 4, 6, 1, 0, *all_all, 4, *all_all, *all_one]
         calls = [
             line(3, 5, *one, 6, 1, 0, 5, *all_all),
             line(3, 6, 1, 0, 6, 1, 0, 3, *one, *third),
             line(4, 3, *third, *all_one, 5, *third, *either),
-            model(4, 4, 6, 1, 0, *all_all, 4, *all_all, *all_one),
+            model(*concept),
         ]
         reckoning = Reckoning()
         expected = [reckoning.answer(call) for call in calls]
         self.assertEqual(ask(*calls), expected)
         self.assertEqual(expected[-1][0], 11)
+        # So many things can't be handed in, so the second reckoning looks at them.
+        self.assertEqual(reckoning.answer(checkmodel(concept, *things_told(expected[-1]))), [0])
 
 
 class OneOrTheOther(unittest.TestCase):
@@ -288,9 +291,11 @@ class SmallModels(unittest.TestCase):
         met = {0: 0, 3: 0, 4: 0}
         for axiom, concept in self.cases(random.Random(8), 40):
             reckoning = Reckoning()
-            calls = [line(*axiom)] + [checkmodel(concept, *as_things(*model)) for model in models[:59]]
-            expected = [reckoning.answer(call) for call in calls]
-            self.assertEqual(ask(*calls), expected, (axiom, concept))
-            for answer in expected[1:]:
-                met[answer[0]] += 1
+            self.assertEqual(reckoning.answer(line(*axiom)), [0])
+            for start in range(0, len(models), 59):
+                calls = [checkmodel(concept, *as_things(*model)) for model in models[start:start + 59]]
+                expected = [reckoning.answer(call) for call in calls]
+                self.assertEqual(ask(line(*axiom), *calls)[1:], expected, (axiom, concept))
+                for answer in expected:
+                    met[answer[0]] += 1
         self.assertGreater(min(met.values()), 100, met)
